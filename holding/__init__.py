@@ -1,0 +1,1 @@
+"""Holding: which puts of a work of wood hold which others."""
