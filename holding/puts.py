@@ -1,4 +1,4 @@
-"""Reads the text of a work, and tells which of its puts stand in another's way.
+"""Reads the text of a work, and tells which of its puts stand in another's way, come along with it, come off.
 
 A cell of the grid is one number, x + 64 y + 4096 z: a put ends at 64 at the most, so no two cells share one.
 """
@@ -8,6 +8,7 @@ BAD_WAY = -1
 TOO_LONG = -2
 NO_PUT = -4
 FAULTY = -6
+NO_SET = -8
 OVERLAPPING = -9
 
 # Why a line is faulty.
@@ -264,15 +265,61 @@ def line_ends(cells, way):
 
 def meets(ends, other_ends):
     """Whether a put of these ends, one way, meets one of those other ends, the opposite way."""
-    # What is counted the opposite way has its sign turned: a sum below 0 says that the other reaches farther out.
-    return any([line in other_ends and end + other_ends[line] < 0 for line, end in ends.items()])
+    for line, end in ends.items():
+        # What is counted the opposite way has its sign turned: a sum below 0 says that the other reaches farther out.
+        if line in other_ends and end + other_ends[line] < 0:
+            return True
+    return False
 
 
-def find_in_way(puts, i, way):
-    """The puts that stand in put i's way, rising."""
+def opposite_ends(cells_of_puts, way):
+    """For each put its ends the opposite way."""
     opposite = way + 1 if way % 2 == 0 else way - 1
-    ends = line_ends(puts[i], way)
-    return [j for j, cells in enumerate(puts) if j != i and meets(ends, line_ends(cells, opposite))]
+    return [line_ends(cells, opposite) for cells in cells_of_puts]
+
+
+def find_met(i, ends, other_ends):
+    """The puts that put i meets, rising; the other ends are those of all puts."""
+    return [j for j, there in enumerate(other_ends) if j != i and meets(ends, there)]
+
+
+def find_in_way(cells_of_puts, i, way):
+    """The puts that stand in put i's way, rising."""
+    return find_met(i, line_ends(cells_of_puts[i], way), opposite_ends(cells_of_puts, way))
+
+
+def find_all_in_way(cells_of_puts, way):
+    """For each put those that stand in its way, rising."""
+    other_ends = opposite_ends(cells_of_puts, way)
+    return [find_met(i, line_ends(cells, way), other_ends) for i, cells in enumerate(cells_of_puts)]
+
+
+def is_set(puts, count):
+    """Whether the list is a set of puts, of a work that has so many."""
+    # In a rising list the last is the greatest.
+    rising = all([puts[k - 1] < puts[k] for k in range(1, len(puts))])
+    return len(puts) > 0 and rising and puts[-1] < count
+
+
+def find_along(in_way, i, puts):
+    """What comes along with put i of a set that has it, rising."""
+    coming = {i: True}
+    to_follow = [i]
+    while to_follow:
+        k = to_follow.pop()
+        for j in in_way[k]:
+            if j in puts and j not in coming:
+                coming[j] = True
+                to_follow.append(j)
+    return sorted(coming)
+
+
+def comes_off(in_way, puts, others):
+    """Whether none of the others stands in the way of any of the puts."""
+    for i in puts:
+        if any([j in others for j in in_way[i]]):
+            return False
+    return True
 
 
 def judge(text):
@@ -294,3 +341,31 @@ def stands(i, way, text):
         return [NO_PUT]
     found = find_in_way(work.cells, i, way)
     return [len(found)] + found
+
+
+def along(i, way, text, puts):
+    """How many puts of the set come along with put i, itself too, and which, rising."""
+    work = read_work(text)
+    if work.refusal:
+        return work.refusal
+    if way > LAST_WAY:
+        return [BAD_WAY]
+    if i >= len(work.cells):
+        return [NO_PUT]
+    if not is_set(puts, len(work.cells)) or i not in puts:
+        return [NO_SET]
+    coming = find_along(find_all_in_way(work.cells, way), i, puts)
+    return [len(coming)] + coming
+
+
+def off(way, text, puts, others):
+    """1 if the set comes off the others that way, else 0."""
+    work = read_work(text)
+    if work.refusal:
+        return work.refusal
+    if way > LAST_WAY:
+        return [BAD_WAY]
+    count = len(work.cells)
+    if not is_set(puts, count) or not is_set(others, count) or any([i in others for i in puts]):
+        return [NO_SET]
+    return [1 if comes_off(find_all_in_way(work.cells, way), puts, others) else 0]

@@ -1,5 +1,6 @@
 """What the tests share: texts of works, and the document told once more, as plainly and slowly as can be."""
 
+import itertools
 import random
 import re
 
@@ -124,6 +125,13 @@ def slow_judge(text):
     return slow_read(text)[0] or [0]
 
 
+def slow_in_way(cells, i, way):
+    """The puts that stand in put i's way, as a set."""
+    step = STEPS[WAYS[way]]
+    ahead = {tuple(c + far * s for c, s in zip(cell, step)) for cell in cells[i] for far in range(1, 64)}
+    return {j for j in range(len(cells)) if j != i and ahead & cells[j]}
+
+
 def slow_stands(i, way, text):
     refusal, cells = slow_read(text)
     if refusal:
@@ -132,13 +140,49 @@ def slow_stands(i, way, text):
         return [-1]
     if i >= len(cells):
         return [-4]
-    step = STEPS[WAYS[way]]
-    found = []
-    for j in range(len(cells)):
-        ahead = {tuple(c + far * s for c, s in zip(cell, step)) for cell in cells[i] for far in range(1, 64)}
-        if j != i and ahead & cells[j]:
-            found.append(j)
+    found = sorted(slow_in_way(cells, i, way))
     return [len(found)] + found
+
+
+def slow_is_set(numbers, cells):
+    return len(numbers) > 0 and numbers == sorted(set(numbers)) and set(numbers) <= set(range(len(cells)))
+
+
+def slow_comes_off(cells, some, others, way):
+    return not any(slow_in_way(cells, i, way) & set(others) for i in some)
+
+
+def subsets(numbers):
+    """Every set of these numbers, the empty one too, lesser ones first."""
+    return [set(some) for count in range(len(numbers) + 1) for some in itertools.combinations(numbers, count)]
+
+
+def slow_along(i, way, text, numbers):
+    """Tries every set that has i, the least first."""
+    refusal, cells = slow_read(text)
+    if refusal:
+        return refusal
+    if way > 5:
+        return [-1]
+    if i >= len(cells):
+        return [-4]
+    if not slow_is_set(numbers, cells) or i not in numbers:
+        return [-8]
+    in_way = {j: slow_in_way(cells, j, way) for j in numbers}
+    for some in subsets(numbers):
+        if i in some and not any(in_way[j] & (set(numbers) - some) for j in some):
+            return [len(some)] + sorted(some)
+
+
+def slow_off(way, text, numbers, others):
+    refusal, cells = slow_read(text)
+    if refusal:
+        return refusal
+    if way > 5:
+        return [-1]
+    if not slow_is_set(numbers, cells) or not slow_is_set(others, cells) or set(numbers) & set(others):
+        return [-8]
+    return [1 if slow_comes_off(cells, numbers, others, way) else 0]
 
 
 def random_cut(dice, sizes):

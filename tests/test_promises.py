@@ -1,13 +1,14 @@
 """The promises that go across calls, and what the interface says of every call."""
 
 import contextlib
+import copy
 import io
 import random
 import re
 import unittest
 
 from holding import puts
-from tests.helper import OPPOSITE, Frozen, lines, random_rows, random_works
+from tests.helper import OPPOSITE, Frozen, lines, random_rows, random_works, subsets
 
 TEXTS = {
     "right": lines("part a 3 3 3 x", "cut 1 1 0 1 1 3", "part b 1 1 9 z", "put a rb 5 5 5", "put b rb 6 6 2"),
@@ -18,14 +19,31 @@ TEXTS = {
     "long": [97] * 65537,
 }
 
+HOLDING_WORKS = [
+    ["part a 3 3 3 x", "cut 1 1 0 1 1 3", "part b 1 1 9 z", "put a rb 5 5 5", "put b rb 6 6 2", "put a rb 5 5 8"],
+    ["part a 5 5 5 x", "cut 1 1 1 3 3 3", "part b 1 1 1 x", "put a rb 5 5 5", "put b rb 7 7 7", "put b rb 7 7 20"],
+    ["part a 3 1 1 x", "cut 1 0 0 1 1 1", "part c 1 3 1 x", "put a rb 0 0 0", "put c rb 1 0 0", "put a rb 0 2 0"],
+    ["part a 1 2 1 x"] + ["put a rb %d %d 7" % (step, step) for step in (3, 1, 4, 0, 2, 5)],
+]
+
 
 def put_count(rows):
     return sum(row.startswith("put ") for row in rows)
 
 
 def all_answers(rows):
+    """What every call answers of each put and way; of sets, those of all puts and of all but one."""
     text = lines(*rows)
-    return [puts.stands(i, way, text) for i in range(put_count(rows)) for way in range(6)]
+    everything = list(range(put_count(rows)))
+    told = []
+    for i in everything:
+        rest = [j for j in everything if j != i]
+        for way in range(6):
+            told.append(puts.stands(i, way, text))
+            told.append(puts.along(i, way, text, everything))
+            told.append(puts.off(way, text, [i], rest))
+            told.append(puts.off(way, text, rest, [i]))
+    return told
 
 
 def moved(rows, by):
@@ -58,6 +76,55 @@ class Promise1(unittest.TestCase):
         self.assertGreater(seen, 100)
 
 
+class Promise2(unittest.TestCase):
+    def test_what_comes_along(self):
+        """It comes off the rest, and every set with i in it that comes off its rest has all of it."""
+        partly, wholly = 0, 0
+        for rows in HOLDING_WORKS + random_works(19, 14, most_side=3, spread=4, most_puts=8):
+            text = lines(*rows)
+            everything = list(range(put_count(rows)))
+            for some in [everything, everything[1:], everything[::2]]:
+                for way in range(6):
+                    coming_off = self.sets_that_come_off(way, text, some)
+                    for i in some:
+                        answer = puts.along(i, way, text, some)
+                        coming = set(answer[1:])
+                        self.assertEqual(answer, [len(coming)] + sorted(coming))
+                        self.assertIn(i, coming)
+                        self.assertIn(coming, coming_off, (rows, way, some, i))
+                        for others in coming_off:
+                            self.assertTrue(i not in others or coming <= others, (rows, way, some, i, others))
+                        partly += 1 < len(coming) < len(some)
+                        wholly += 2 < len(coming) and coming == set(some)
+        self.assertGreater(partly, 50)
+        self.assertGreater(wholly, 10)
+
+    def sets_that_come_off(self, way, text, some):
+        """Of a set all sets of its puts that come off its other puts; the whole of it has none to come off."""
+        found = [set(some)]
+        for moved_off in subsets(some)[1:-1]:
+            left = sorted(set(some) - moved_off)
+            if puts.off(way, text, sorted(moved_off), left) == [1]:
+                found.append(moved_off)
+        return found
+
+    def test_off_the_opposite_way(self):
+        """What comes off others one way, they come off from the opposite way."""
+        dice = random.Random(20)
+        told = []
+        for rows in random_works(21, 40, most_side=3, spread=4, most_puts=12):
+            text = lines(*rows)
+            mixed = list(range(put_count(rows)))
+            dice.shuffle(mixed)
+            for cut in range(1, len(mixed)):
+                some, others = sorted(mixed[:cut]), sorted(mixed[cut:])
+                for way in range(6):
+                    answer = puts.off(way, text, some, others)
+                    self.assertEqual(answer, puts.off(OPPOSITE[way], text, others, some), (rows, way, some, others))
+                    told.append(answer[0])
+        self.assertGreater(min(told.count(0), told.count(1)), 50)
+
+
 class Promise5(unittest.TestCase):
     def test_moved(self):
         for rows in random_works(8, 40):
@@ -83,41 +150,58 @@ class Promise5(unittest.TestCase):
 
 
 class EveryCall(unittest.TestCase):
-    def calls(self, text):
-        yield lambda: puts.judge(text)
+    def calls(self, text, make=list):
+        """Each call with its arguments, the lists among them made anew."""
+        yield puts.judge, (make(text),)
         for i, way in ((0, 0), (1, 4), (0, 6), (7, 1), (4294967295, 4294967295)):
-            yield lambda: puts.stands(i, way, text)
+            yield puts.stands, (i, way, make(text))
+            for some in ([0, 1], [0], [1, 0], [], [0, 0], [0, 1, 7], [4294967295] * 100):
+                yield puts.along, (i, way, make(text), make(some))
+        for way in (0, 4, 6):
+            for some, others in (([0], [1]), ([1], [0]), ([0, 1], [1]), ([1, 0], [0]), ([0], []), ([9] * 99, [8] * 99)):
+                yield puts.off, (way, make(text), make(some), make(others))
 
     def test_nothing_handed_in_is_changed(self):
         for name, text in TEXTS.items():
-            handed = list(text)
-            for call in self.calls(handed):
-                call()
-                self.assertEqual(handed, text, name)
+            for call, handed in self.calls(text):
+                before = copy.deepcopy(handed)
+                call(*handed)
+                self.assertEqual(handed, before, name)
 
     def test_not_for_a_while_either(self):
         for text in TEXTS.values():
-            for call in self.calls(Frozen(text)):
-                call()
+            for call, handed in self.calls(text, Frozen):
+                call(*handed)
+
+    def test_one_list_handed_in_twice(self):
+        some = [0, 1]
+        self.assertEqual(puts.off(0, TEXTS["right"], some, some), [-8])
+        self.assertEqual(some, [0, 1])
 
     def test_the_same_call_twice(self):
         for name, text in TEXTS.items():
-            for call in self.calls(text):
-                self.assertEqual(call(), call(), name)
+            for call, handed in self.calls(text):
+                self.assertEqual(call(*handed), call(*handed), name)
 
     def test_nothing_is_kept(self):
         """Calls in between, and a spoilt answer, change no answer."""
-        before = {name: [call() for call in self.calls(text)] for name, text in TEXTS.items()}
+        before = {name: [call(*handed) for call, handed in self.calls(text)] for name, text in TEXTS.items()}
         for text in TEXTS.values():
-            for call in self.calls(text):
-                call().append(99)
+            for call, handed in self.calls(text):
+                call(*handed).append(99)
         for name, text in reversed(TEXTS.items()):
-            self.assertEqual([call() for call in self.calls(text)], before[name], name)
+            self.assertEqual([call(*handed) for call, handed in self.calls(text)], before[name], name)
+
+    def test_an_answer_is_none_of_the_lists_handed_in(self):
+        for text in TEXTS.values():
+            for call, handed in self.calls(text):
+                answer = call(*handed)
+                self.assertFalse(any(answer is given for given in handed))
 
     def test_answers_are_lists_of_whole_numbers(self):
         for name, text in TEXTS.items():
-            for call in self.calls(text):
-                answer = call()
+            for call, handed in self.calls(text):
+                answer = call(*handed)
                 self.assertIs(type(answer), list)
                 self.assertEqual({type(number) for number in answer}, {int}, name)
 
@@ -125,14 +209,16 @@ class EveryCall(unittest.TestCase):
         out, err = io.StringIO(), io.StringIO()
         with contextlib.redirect_stdout(out), contextlib.redirect_stderr(err):
             for text in TEXTS.values():
-                for call in self.calls(text):
-                    call()
+                for call, handed in self.calls(text):
+                    call(*handed)
         self.assertEqual(out.getvalue() + err.getvalue(), "")
 
     def test_arguments_by_name(self):
         text = TEXTS["right"]
         self.assertEqual(puts.judge(text=text), [0])
         self.assertEqual(puts.stands(i=0, way=0, text=text), [1, 1])
+        self.assertEqual(puts.along(i=0, way=0, text=text, puts=[0, 1]), [2, 0, 1])
+        self.assertEqual(puts.off(way=4, text=text, puts=[0], others=[1]), [1])
 
 
 if __name__ == "__main__":
