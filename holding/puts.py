@@ -1,297 +1,18 @@
-"""Reads the text of a work, and tells which of its puts stand in another's way, come along with it, come off.
+"""The calls: each reads the text of a work anew, and answers with a list of numbers.
 
-A cell of the grid is one number, x + 64 y + 4096 z: a put ends at 64 at the most, so no two cells share one.
+The refusals are looked for in the order in which the document names them.
 """
 
-# The refusals.
+from holding.drawing import (
+    WAY_COUNT, comes_off, find_all_in_way, find_along, find_first_move, find_in_way, find_in_ways, take_apart,
+)
+from holding.reading import read_work
+
+# The refusals, but those that reading a text makes.
 BAD_WAY = -1
-TOO_LONG = -2
+NO_MOVE = -3
 NO_PUT = -4
-FAULTY = -6
 NO_SET = -8
-OVERLAPPING = -9
-
-# Why a line is faulty.
-NO_FAULT = 0
-NOT_FORMED = 1
-TOO_MUCH = 2
-CANT_STAND = 3
-CLASHES = 4
-
-MOST_BYTES = 65536
-MOST_PARTS = 32
-MOST_CUTS = 64
-MOST_PUTS = 32
-LONGEST_NAME = 12
-LONGEST_SIDE = 16
-FARTHEST_CORNER = 48
-LAST_WAY = 5
-
-# The signs that a right line may have; every other byte is read as NO_SIGN, which is none of them.
-SIGNS = "\n 0123456789abcdefghijklmnopqrstuvwxyz"
-NO_SIGN = "?"
-GRAINS = ("x", "y", "z")
-WAY_SIGNS = "rlbfud"
-WAY_STEPS = ((1, 0, 0), (-1, 0, 0), (0, 1, 0), (0, -1, 0), (0, 0, 1), (0, 0, -1))
-
-NO_NUMBER = -1
-# Beyond every bound, even with a length added to it.
-HUGE = 10000
-
-GRID_SIDE = 64
-STRIDES = (1, 64, 4096)
-
-
-class Part:
-    """A block; bit x of its row y + d z says whether it has the cell (x, y, z)."""
-
-    def __init__(self, sizes):
-        self.sizes = sizes
-        self.cuts = 0
-        self.rows = [(1 << sizes[0]) - 1] * (sizes[1] * sizes[2])
-
-
-class Put:
-    """A part as it is put: where its right, back and up point, and its lowest corner."""
-
-    def __init__(self, part, ways, corner):
-        self.part = part
-        self.ways = ways
-        self.corner = corner
-
-
-class Work:
-    """What has been read of a text: its parts by name, the latest part, its puts, the cells of each put.
-
-    Its refusal is empty if the text is right and no two puts overlap.
-    """
-
-    def __init__(self):
-        self.parts = {}
-        self.latest = None
-        self.puts = []
-        self.cells = []
-        self.refusal = []
-
-
-def split_lines(text):
-    """The lines of a text, and behind them what stands behind the last line feed."""
-    signs = [NO_SIGN] * 256
-    for sign in SIGNS:
-        signs[ord(sign)] = sign
-    return "".join([signs[byte] for byte in text]).split("\n")
-
-
-def is_name(word):
-    return word.isalnum() and len(word) <= LONGEST_NAME
-
-
-def read_number(word):
-    if not word.isdigit() or (word[0] == "0" and len(word) > 1):
-        return NO_NUMBER
-    # Python refuses to read a number of some thousand digits.
-    if len(word) > 4:
-        return HUGE
-    return int(word)
-
-
-def read_numbers(words):
-    return [read_number(word) for word in words]
-
-
-def all_within(numbers, least, most):
-    return all([least <= number <= most for number in numbers])
-
-
-def cross(a, b):
-    return (a[1] * b[2] - a[2] * b[1], a[2] * b[0] - a[0] * b[2], a[0] * b[1] - a[1] * b[0])
-
-
-def read_ways(word):
-    """Where right, back and up point, or an empty list if the word doesn't tell it."""
-    ways = [WAY_SIGNS.find(sign) for sign in word]
-    if len(ways) != 2 or -1 in ways or ways[0] // 2 == ways[1] // 2:
-        return []
-    return ways + [WAY_STEPS.index(cross(WAY_STEPS[ways[0]], WAY_STEPS[ways[1]]))]
-
-
-def read_part(work, words):
-    sizes = read_numbers(words[2:5])
-    if len(words) != 6 or not is_name(words[1]) or not all_within(sizes, 1, LONGEST_SIDE) or words[5] not in GRAINS:
-        return NOT_FORMED
-    if work.puts:
-        return CANT_STAND
-    if words[1] in work.parts:
-        return CLASHES
-    if len(work.parts) == MOST_PARTS:
-        return TOO_MUCH
-    work.latest = Part(sizes)
-    work.parts[words[1]] = work.latest
-    return NO_FAULT
-
-
-def read_cut(work, words):
-    corner = read_numbers(words[1:4])
-    lengths = read_numbers(words[4:7])
-    if len(words) != 7 or NO_NUMBER in corner or not all_within(lengths, 1, LONGEST_SIDE):
-        return NOT_FORMED
-    part = work.latest
-    if part is None or work.puts:
-        return CANT_STAND
-    if any([corner[axis] + lengths[axis] > part.sizes[axis] for axis in range(3)]):
-        return CLASHES
-    if part.cuts == MOST_CUTS:
-        return TOO_MUCH
-    part.cuts += 1
-    cut_away(part, corner, lengths)
-    return NO_FAULT
-
-
-def cut_away(part, corner, lengths):
-    gone = ((1 << lengths[0]) - 1) << corner[0]
-    for z in range(corner[2], corner[2] + lengths[2]):
-        for y in range(corner[1], corner[1] + lengths[1]):
-            row = y + part.sizes[1] * z
-            part.rows[row] = part.rows[row] & ~gone
-
-
-def read_put(work, words):
-    corner = read_numbers(words[3:6])
-    if len(words) != 6 or not is_name(words[1]) or not all_within(corner, 0, FARTHEST_CORNER):
-        return NOT_FORMED
-    ways = read_ways(words[2])
-    if not ways:
-        return NOT_FORMED
-    if not work.parts:
-        return CANT_STAND
-    if words[1] not in work.parts:
-        return CLASHES
-    if len(work.puts) == MOST_PUTS:
-        return TOO_MUCH
-    work.puts.append(Put(work.parts[words[1]], ways, corner))
-    return NO_FAULT
-
-
-def read_line(work, line):
-    """Takes a line into the work if it is right; gives back why it isn't."""
-    words = line.split(" ")
-    if words[0] == "part":
-        return read_part(work, words)
-    if words[0] == "cut":
-        return read_cut(work, words)
-    if words[0] == "put":
-        return read_put(work, words)
-    return NOT_FORMED
-
-
-def read_lines(work, text):
-    """Takes a text into the work up to its fault; gives back the fault, or an empty list if there is none."""
-    lines = split_lines(text)
-    rest = lines.pop()
-    for number, line in enumerate(lines):
-        why = read_line(work, line)
-        if why != NO_FAULT:
-            return [number, why]
-    if rest != "":
-        return [len(lines), NOT_FORMED]
-    return []
-
-
-def put_cells(put):
-    """The cells of the grid that a put has."""
-    sizes = put.part.sizes
-    start = 0
-    steps = []
-    for axis, way in enumerate(put.ways):
-        stride = STRIDES[way // 2]
-        start += put.corner[way // 2] * stride
-        if way % 2 == 0:
-            steps.append(stride)
-        else:
-            # The axis points down the grid's, so its cell 0 is the one farthest up.
-            start += (sizes[axis] - 1) * stride
-            steps.append(-stride)
-    cells = []
-    for number, row in enumerate(put.part.rows):
-        row_start = start + (number % sizes[1]) * steps[1] + (number // sizes[1]) * steps[2]
-        cells.extend([row_start + x * steps[0] for x in range(sizes[0]) if (row >> x) & 1 == 1])
-    return cells
-
-
-def first_overlap(puts):
-    """The first pair of puts that have a cell in common, or an empty list if there is none.
-
-    To keep the first owner of each cell is enough: the first pair of all is the two first owners of some cell.
-    """
-    owners = {}
-    pair = []
-    for j, cells in enumerate(puts):
-        for cell in cells:
-            i = owners.setdefault(cell, j)
-            if i != j and (not pair or i < pair[0]):
-                pair = [i, j]
-    return pair
-
-
-def read_work(text):
-    """Reads a text, with the refusals that every call looks for first."""
-    work = Work()
-    if len(text) > MOST_BYTES:
-        work.refusal = [TOO_LONG]
-        return work
-    fault = read_lines(work, text)
-    if fault:
-        work.refusal = [FAULTY] + fault
-        return work
-    work.cells = [put_cells(put) for put in work.puts]
-    pair = first_overlap(work.cells)
-    if pair:
-        work.refusal = [OVERLAPPING] + pair
-    return work
-
-
-def line_ends(cells, way):
-    """For each line along the way that has some of the cells: how far out the least far of them lies."""
-    stride = STRIDES[way // 2]
-    ends = {}
-    for cell in cells:
-        line = cell - (cell // stride % GRID_SIDE) * stride
-        # Within a line cells are ordered as their numbers are.
-        out = cell if way % 2 == 0 else -cell
-        if line not in ends or out < ends[line]:
-            ends[line] = out
-    return ends
-
-
-def meets(ends, other_ends):
-    """Whether a put of these ends, one way, meets one of those other ends, the opposite way."""
-    for line, end in ends.items():
-        # What is counted the opposite way has its sign turned: a sum below 0 says that the other reaches farther out.
-        if line in other_ends and end + other_ends[line] < 0:
-            return True
-    return False
-
-
-def opposite_ends(cells_of_puts, way):
-    """For each put its ends the opposite way."""
-    opposite = way + 1 if way % 2 == 0 else way - 1
-    return [line_ends(cells, opposite) for cells in cells_of_puts]
-
-
-def find_met(i, ends, other_ends):
-    """The puts that put i meets, rising; the other ends are those of all puts."""
-    return [j for j, there in enumerate(other_ends) if j != i and meets(ends, there)]
-
-
-def find_in_way(cells_of_puts, i, way):
-    """The puts that stand in put i's way, rising."""
-    return find_met(i, line_ends(cells_of_puts[i], way), opposite_ends(cells_of_puts, way))
-
-
-def find_all_in_way(cells_of_puts, way):
-    """For each put those that stand in its way, rising."""
-    other_ends = opposite_ends(cells_of_puts, way)
-    return [find_met(i, line_ends(cells, way), other_ends) for i, cells in enumerate(cells_of_puts)]
 
 
 def is_set(puts, count):
@@ -301,25 +22,13 @@ def is_set(puts, count):
     return len(puts) > 0 and rising and puts[-1] < count
 
 
-def find_along(in_way, i, puts):
-    """What comes along with put i of a set that has it, rising."""
-    coming = {i: True}
-    to_follow = [i]
-    while to_follow:
-        k = to_follow.pop()
-        for j in in_way[k]:
-            if j in puts and j not in coming:
-                coming[j] = True
-                to_follow.append(j)
-    return sorted(coming)
+def tell_puts(puts):
+    """How many puts, and they."""
+    return [len(puts)] + puts
 
 
-def comes_off(in_way, puts, others):
-    """Whether none of the others stands in the way of any of the puts."""
-    for i in puts:
-        if any([j in others for j in in_way[i]]):
-            return False
-    return True
+def tell_move(move):
+    return [move.way] + tell_puts(move.coming) + tell_puts(move.left)
 
 
 def judge(text):
@@ -335,12 +44,11 @@ def stands(i, way, text):
     work = read_work(text)
     if work.refusal:
         return work.refusal
-    if way > LAST_WAY:
+    if way >= WAY_COUNT:
         return [BAD_WAY]
     if i >= len(work.cells):
         return [NO_PUT]
-    found = find_in_way(work.cells, i, way)
-    return [len(found)] + found
+    return tell_puts(find_in_way(work.cells, i, way))
 
 
 def along(i, way, text, puts):
@@ -348,14 +56,13 @@ def along(i, way, text, puts):
     work = read_work(text)
     if work.refusal:
         return work.refusal
-    if way > LAST_WAY:
+    if way >= WAY_COUNT:
         return [BAD_WAY]
     if i >= len(work.cells):
         return [NO_PUT]
     if not is_set(puts, len(work.cells)) or i not in puts:
         return [NO_SET]
-    coming = find_along(find_all_in_way(work.cells, way), i, puts)
-    return [len(coming)] + coming
+    return tell_puts(find_along(find_all_in_way(work.cells, way), i, puts))
 
 
 def off(way, text, puts, others):
@@ -363,9 +70,33 @@ def off(way, text, puts, others):
     work = read_work(text)
     if work.refusal:
         return work.refusal
-    if way > LAST_WAY:
+    if way >= WAY_COUNT:
         return [BAD_WAY]
     count = len(work.cells)
     if not is_set(puts, count) or not is_set(others, count) or any([i in others for i in puts]):
         return [NO_SET]
     return [1 if comes_off(find_all_in_way(work.cells, way), puts, others) else 0]
+
+
+def first(text, puts):
+    """0, and the set's first move: the way, how many puts come along, they, how many are left, they."""
+    work = read_work(text)
+    if work.refusal:
+        return work.refusal
+    if not is_set(puts, len(work.cells)):
+        return [NO_SET]
+    move = find_first_move(find_in_ways(work.cells), puts)
+    if move is None:
+        return [NO_MOVE]
+    return [0] + tell_move(move)
+
+
+def apart(text, puts):
+    """1 if the set comes apart, else 0."""
+    work = read_work(text)
+    if work.refusal:
+        return work.refusal
+    if not is_set(puts, len(work.cells)):
+        return [NO_SET]
+    row = take_apart(find_in_ways(work.cells), puts)
+    return [1 if all([len(together) == 1 for together in row.together]) else 0]

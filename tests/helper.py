@@ -4,6 +4,8 @@ import itertools
 import random
 import re
 
+LARGEST = 4294967295
+
 WAYS = "rlbfud"
 STEPS = {"r": (1, 0, 0), "l": (-1, 0, 0), "b": (0, 1, 0), "f": (0, -1, 0), "u": (0, 0, 1), "d": (0, 0, -1)}
 OPPOSITE = (1, 0, 3, 2, 5, 4)
@@ -42,6 +44,109 @@ def as_text(words):
 def lines(*rows):
     """The text of these lines, each with its line feed."""
     return as_text("".join(row + "\n" for row in rows))
+
+
+UNIT = "part b 1 1 1 x"
+
+
+def put(*place):
+    """The row that puts the part of one cell."""
+    return "put b rb %d %d %d" % place
+
+
+# Four puts in one line.
+ROW = lines(UNIT, put(10, 5, 5), put(11, 5, 5), put(20, 5, 5), put(48, 5, 5))
+# Lists that are no set of puts of a work that has four.
+NO_SETS = (
+    [], [1, 0], [0, 0], [0, 1, 1], [0, 2, 1], [2, 1, 0], [0, 1, 2, 1], [0, 2, 1, 3], [3, 2, 1, 0], [0, 4], [4], [5],
+    [0, 1, 2, 3, 4], [LARGEST], [0, LARGEST], [LARGEST, 0], [4, 0], [0, 5, 1], [0, 1, 2, 3, 3], [0, 0, 1, 2, 3],
+    list(range(100)), list(range(99, -1, -1)), [0] * 100, [LARGEST] * 100, [0, 1, 2] * 33, [0, 1, 2, 3] * 25,
+)
+# Texts that every call refuses.
+OVERLAPPING = lines(UNIT, put(0, 0, 0), put(5, 0, 0), put(5, 0, 0))
+FAULTY = lines(UNIT, put(0, 0, 0), put(0, 0, 0), "x")
+LONG = lines(UNIT, "x") + [120] * 65536
+REFUSED = (
+    (OVERLAPPING, [-9, 1, 2]),
+    (FAULTY, [-6, 3, 1]),
+    (LONG, [-2]),
+    ([10] * 65537, [-2]),
+    ([10] * 65536, [-6, 0, 1]),
+    (lines(put(0, 0, 0)), [-6, 0, 3]),
+    (lines(UNIT, UNIT), [-6, 1, 4]),
+    (lines(UNIT, put(0, 0, 0))[:-1], [-6, 1, 1]),
+    (lines(UNIT, *[put(number, 0, 0) for number in range(33)]), [-6, 33, 2]),
+)
+
+
+def chain(count, y=0):
+    """The rows of a chain: links that lie and stand in turn, each held by the next in all six ways."""
+    rows = ["part k 5 3 1 x", "cut 1 1 0 3 1 1"]
+    for number in range(count):
+        lying = number % 2 == 0
+        rows.append("put k %s %d %d %d" % ("rb" if lying else "ru", 3 * number, y if lying else y + 1, lying))
+    return rows
+
+
+PUT_SIGNS = "0123456789abcdefghijklmnopqrstuv"
+
+
+def from_layers(*layers):
+    """The rows of a work told cell by cell: layers from the lowest up, in each the rows from the front to the back.
+
+    A cell's sign is the number of its put (a for 10, and so on), or a dot for none.
+    """
+    signs = {
+        (x, y, z): sign
+        for z, layer in enumerate(layers)
+        for y, row in enumerate(layer.split())
+        for x, sign in enumerate(row)
+    }
+    sizes = [max(cell[axis] for cell in signs) + 1 for axis in range(3)]
+    count = max(PUT_SIGNS.find(sign) for sign in signs.values()) + 1
+    rows = []
+    for number in range(count):
+        rows.append("part p%d %d %d %d x" % (number, *sizes))
+        rows.extend("cut %d %d %d 1 1 1" % cell for cell, sign in signs.items() if sign != PUT_SIGNS[number])
+    return rows + ["put p%d rb 9 9 9" % number for number in range(count)]
+
+
+# A box, and a cell within it: locked.
+BOX = ["part a 5 5 5 x", "cut 1 1 1 3 3 3", UNIT, "put a rb 5 5 5", put(7, 7, 7)]
+# A case that is open to the right; in it a ring, and a rod in the ring, which only come out together.
+DRAWER = ["part a 5 5 5 x", "cut 1 1 1 4 3 3", "part r 3 3 1 x", "cut 1 1 0 1 1 1", "part c 1 1 3 z",
+          "put a rb 5 5 5", "put r rb 6 6 7", "put c rb 7 7 6"]
+# Three that are locked, though of any two each comes off the other.
+KNOT = from_layers("12. 200 .12", "... ... 1..", "01. .2. ...")
+
+# As many puts as there may be, each as large as may be.
+BLOCKS = ["part a 16 16 16 x"]
+BLOCKS += ["put a rb %d %d %d" % (16 * (k % 4), 16 * (k // 4 % 4), 16 * (k // 16)) for k in range(32)]
+
+
+class SetRefusals:
+    """What a call, told as `call`, refuses that is handed a text and a set of puts, whatever else it does."""
+
+    FULL = lines(UNIT, *[put(number, 0, 0) for number in range(32)])
+
+    def test_no_sets(self):
+        for numbers in NO_SETS:
+            self.assertEqual(self.call(ROW, numbers), [-8], numbers)
+
+    def test_beyond_the_32nd_put(self):
+        for numbers in ([32], [31, 32], list(range(33)), list(range(1, 33)), [0, 32]):
+            self.assertEqual(self.call(self.FULL, numbers), [-8], numbers)
+
+    def test_no_puts_at_all(self):
+        for text in ([], lines(UNIT)):
+            for numbers in ([], [0], [0, 1], [LARGEST], [LARGEST] * 100):
+                self.assertEqual(self.call(text, numbers), [-8], numbers)
+
+    def test_those_of_every_call(self):
+        """They go ahead of the set's; a text too long is faulty too, and a faulty one overlaps."""
+        for text, refusal in REFUSED:
+            for numbers in ([0], [0, 1], [], [1, 0], [0, 0], [LARGEST] * 100):
+                self.assertEqual(self.call(text, numbers), refusal, (refusal, numbers))
 
 
 def small(digits):
@@ -157,8 +262,19 @@ def subsets(numbers):
     return [set(some) for count in range(len(numbers) + 1) for some in itertools.combinations(numbers, count)]
 
 
+def slow_parts(in_way, some, others):
+    """Whether the one comes off the other, by who stands in whose way."""
+    return not any(in_way[i] & others for i in some)
+
+
+def slow_least(in_way, i, numbers):
+    """What comes along with i: tries every set that has i, the least first."""
+    for some in subsets(numbers):
+        if i in some and slow_parts(in_way, some, set(numbers) - some):
+            return some
+
+
 def slow_along(i, way, text, numbers):
-    """Tries every set that has i, the least first."""
     refusal, cells = slow_read(text)
     if refusal:
         return refusal
@@ -168,10 +284,8 @@ def slow_along(i, way, text, numbers):
         return [-4]
     if not slow_is_set(numbers, cells) or i not in numbers:
         return [-8]
-    in_way = {j: slow_in_way(cells, j, way) for j in numbers}
-    for some in subsets(numbers):
-        if i in some and not any(in_way[j] & (set(numbers) - some) for j in some):
-            return [len(some)] + sorted(some)
+    some = slow_least({j: slow_in_way(cells, j, way) for j in numbers}, i, numbers)
+    return [len(some)] + sorted(some)
 
 
 def slow_off(way, text, numbers, others):
@@ -183,6 +297,54 @@ def slow_off(way, text, numbers, others):
     if not slow_is_set(numbers, cells) or not slow_is_set(others, cells) or set(numbers) & set(others):
         return [-8]
     return [1 if slow_comes_off(cells, numbers, others, way) else 0]
+
+
+def slow_in_ways(cells):
+    return [[slow_in_way(cells, i, way) for i in range(len(cells))] for way in range(6)]
+
+
+def slow_move(in_ways, numbers):
+    """The first move: the way, what comes along and what's left; None if there's none."""
+    for way in range(6):
+        for i in numbers:
+            some = slow_least(in_ways[way], i, numbers)
+            if some != set(numbers):
+                return way, sorted(some), sorted(set(numbers) - some)
+    return None
+
+
+def slow_first(text, numbers):
+    refusal, cells = slow_read(text)
+    if refusal:
+        return refusal
+    if not slow_is_set(numbers, cells):
+        return [-8]
+    move = slow_move(slow_in_ways(cells), numbers) if len(numbers) > 1 else None
+    if move is None:
+        return [-3]
+    way, some, rest = move
+    return [0, way, len(some)] + some + [len(rest)] + rest
+
+
+def slow_comes_apart(in_ways, numbers):
+    """Tries all partings into two sets, however one begins."""
+    if len(numbers) == 1:
+        return True
+    for some in subsets(numbers)[1:-1]:
+        rest = set(numbers) - some
+        if any(slow_parts(in_way, some, rest) for in_way in in_ways):
+            if slow_comes_apart(in_ways, sorted(some)) and slow_comes_apart(in_ways, sorted(rest)):
+                return True
+    return False
+
+
+def slow_apart(text, numbers):
+    refusal, cells = slow_read(text)
+    if refusal:
+        return refusal
+    if not slow_is_set(numbers, cells):
+        return [-8]
+    return [1 if slow_comes_apart(slow_in_ways(cells), numbers) else 0]
 
 
 def random_cut(dice, sizes):
@@ -219,3 +381,18 @@ def random_works(seed, count, **bounds):
     """Rows of works without overlap, the same ones at each run."""
     dice = random.Random(seed)
     return [without_overlap(random_rows(dice, **bounds)) for number in range(count)]
+
+
+def random_tangles(seed, count, side=3, most_puts=5):
+    """Rows of works without overlap in which each cell of a small block falls to some put: many hold one another."""
+    dice = random.Random(seed)
+    works = []
+    for number in range(count):
+        signs = PUT_SIGNS[:dice.randint(2, most_puts)]
+        filled = dice.choice((0.3, 0.5, 0.7, 1))
+        cells = [dice.choice(signs) if dice.random() < filled else "." for cell in range(side ** 3)]
+        # The last put is given a cell, so that every work has as many puts as were thrown.
+        cells[dice.randrange(len(cells))] = signs[-1]
+        rows = ["".join(cells[start:start + side]) for start in range(0, len(cells), side)]
+        works.append(from_layers(*[" ".join(rows[start:start + side]) for start in range(0, len(rows), side)]))
+    return works

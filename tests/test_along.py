@@ -4,17 +4,8 @@ import random
 import unittest
 
 from holding.puts import along
-from tests.helper import lines, random_works, slow_along
+from tests.helper import FAULTY, LARGEST, LONG, NO_SETS, OVERLAPPING, ROW, UNIT, lines, put, random_works, slow_along
 
-UNIT = "part b 1 1 1 x"
-LARGEST = 4294967295
-
-
-def put(*place):
-    return "put b rb %d %d %d" % place
-
-
-ROW = lines(UNIT, put(10, 5, 5), put(11, 5, 5), put(20, 5, 5), put(48, 5, 5))
 # Drawn to the right each meets the next alone: a stair of parts that reach over one line of the next.
 STAIR = ["part a 1 2 1 x"] + ["put a rb %d %d 7" % (step, step) for step in range(32)]
 STAIR_DOWN = STAIR[:1] + STAIR[:0:-1]
@@ -150,13 +141,6 @@ class Held(unittest.TestCase):
 
 
 class Refusals(unittest.TestCase):
-    OVERLAPPING = lines(UNIT, put(0, 0, 0), put(5, 0, 0), put(5, 0, 0))
-    FAULTY = lines(UNIT, put(0, 0, 0), put(0, 0, 0), "x")
-    LONG = lines(UNIT, "x") + [120] * 65536
-    NO_SETS = ([], [1, 0], [0, 0], [0, 1, 1], [0, 1, 2, 1], [0, 2, 1, 3], [3, 2, 1, 0], [0, 4], [0, 1, 2, 3, 4],
-               [4], [0, LARGEST], [LARGEST], [LARGEST, 0], [4, 0], [0, 1, 2, 3, 3], [0, 0, 1, 2, 3], [0, 5, 1],
-               list(range(100)), [0] * 100, list(range(99, -1, -1)), [0, 1, 2, 3] * 25)
-
     def test_ways(self):
         self.assertEqual(along(0, 5, ROW, [0, 1]), [1, 0])
         for way in (6, 7, 255, LARGEST - 1, LARGEST):
@@ -168,7 +152,7 @@ class Refusals(unittest.TestCase):
             self.assertEqual(along(i, 0, ROW, [0, 1, 2, 3]), [-4], i)
 
     def test_no_sets(self):
-        for numbers in self.NO_SETS:
+        for numbers in NO_SETS:
             for i in range(4):
                 for way in (0, 5):
                     self.assertEqual(along(i, way, ROW, numbers), [-8], (i, numbers))
@@ -194,13 +178,13 @@ class Refusals(unittest.TestCase):
                 self.assertEqual(along(0, 6, text, numbers), [-1])
 
     def test_those_of_every_call(self):
-        self.assertEqual(along(0, 0, self.OVERLAPPING, [0]), [-9, 1, 2])
-        self.assertEqual(along(0, 0, self.FAULTY, [0]), [-6, 3, 1])
+        self.assertEqual(along(0, 0, OVERLAPPING, [0]), [-9, 1, 2])
+        self.assertEqual(along(0, 0, FAULTY, [0]), [-6, 3, 1])
         self.assertEqual(along(0, 0, lines("put b rb 0 0 0"), [0]), [-6, 0, 3])
         self.assertEqual(along(0, 0, lines(UNIT, UNIT), [0]), [-6, 1, 4])
         self.assertEqual(along(0, 0, lines(*STAIR, STAIR[1]), [0]), [-6, 33, 2])
         self.assertEqual(along(0, 0, ROW[:-1], [0]), [-6, 4, 1])
-        self.assertEqual(along(0, 0, self.LONG, [0]), [-2])
+        self.assertEqual(along(0, 0, LONG, [0]), [-2])
         self.assertEqual(along(0, 0, [10] * 65537, [0]), [-2])
         self.assertEqual(along(0, 0, [10] * 65536, [0]), [-6, 0, 1])
 
@@ -209,9 +193,9 @@ class Refusals(unittest.TestCase):
             for way in (0, 6, LARGEST):
                 for numbers in ([0], [], [1, 0], [LARGEST] * 100):
                     told = (i, way, numbers)
-                    self.assertEqual(along(i, way, self.LONG, numbers), [-2], told)
-                    self.assertEqual(along(i, way, self.FAULTY, numbers), [-6, 3, 1], told)
-                    self.assertEqual(along(i, way, self.OVERLAPPING, numbers), [-9, 1, 2], told)
+                    self.assertEqual(along(i, way, LONG, numbers), [-2], told)
+                    self.assertEqual(along(i, way, FAULTY, numbers), [-6, 3, 1], told)
+                    self.assertEqual(along(i, way, OVERLAPPING, numbers), [-9, 1, 2], told)
                     right = [-1] if way > 5 else [-4] if i > 3 else [-8] if numbers != [0] else [4, 0, 1, 2, 3]
                     numbers = [0, 1, 2, 3] if numbers == [0] else numbers
                     self.assertEqual(along(i, way, ROW, numbers), right, told)

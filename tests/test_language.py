@@ -106,6 +106,22 @@ class Form(unittest.TestCase):
             if isinstance(node, ast.ImportFrom):
                 self.assertEqual(node.module.split(".")[0], "holding", (name, node.lineno))
 
+    def test_imports_from_where_a_name_is_defined(self):
+        """And no file draws from one that draws from it, in however many steps."""
+        drawn = {}
+        for path in FILES:
+            rows = [node for node in ast.parse(path.read_text()).body if isinstance(node, ast.ImportFrom)]
+            drawn[path.stem] = {node.module.split(".")[1] for node in rows}
+            for node in rows:
+                source = (PACKAGE / (node.module.split(".")[1] + ".py")).read_text()
+                for alias in node.names:
+                    self.assertIsNone(alias.asname, path)
+                    self.assertRegex(source, r"(?m)^((def|class) %s\b|%s = )" % (alias.name, alias.name))
+        while drawn:
+            free = [name for name in drawn if not drawn[name] & set(drawn)]
+            self.assertTrue(free, drawn)
+            drawn = {name: drawn[name] for name in drawn if name not in free}
+
 
 if __name__ == "__main__":
     unittest.main()

@@ -4,17 +4,10 @@ import random
 import unittest
 
 from holding.puts import off
-from tests.helper import OPPOSITE, lines, random_works, slow_off
+from tests.helper import (
+    FAULTY, LARGEST, LONG, NO_SETS, OPPOSITE, OVERLAPPING, ROW, UNIT, lines, put, random_works, slow_off,
+)
 
-UNIT = "part b 1 1 1 x"
-LARGEST = 4294967295
-
-
-def put(*place):
-    return "put b rb %d %d %d" % place
-
-
-ROW = lines(UNIT, put(10, 5, 5), put(11, 5, 5), put(20, 5, 5), put(48, 5, 5))
 # Put 0 in the middle, put 1 to the right of it, 2 to its left, 3 back, 4 front, 5 up, 6 down.
 STAR = lines(UNIT, put(5, 5, 5), put(6, 5, 5), put(4, 5, 5), put(5, 6, 5), put(5, 4, 5), put(5, 5, 6), put(5, 5, 4))
 
@@ -103,19 +96,13 @@ class Sets(unittest.TestCase):
 
 
 class Refusals(unittest.TestCase):
-    OVERLAPPING = lines(UNIT, put(0, 0, 0), put(5, 0, 0), put(5, 0, 0))
-    FAULTY = lines(UNIT, put(0, 0, 0), put(0, 0, 0), "x")
-    LONG = lines(UNIT, "x") + [120] * 65536
-    NO_SETS = ([], [1, 0], [0, 0], [0, 1, 1], [0, 2, 1], [2, 1, 0], [0, 4], [0, 1, 2, 3, 4], [4], [5], [LARGEST],
-               [0, LARGEST], [4, 0], [LARGEST, 0], [0, 5, 1], list(range(100)), [0] * 100, [0, 1, 2] * 33)
-
     def test_ways(self):
         self.assertEqual(off(5, ROW, [0], [1]), [1])
         for way in (6, 7, 255, LARGEST - 1, LARGEST):
             self.assertEqual(off(way, ROW, [0], [1]), [-1], way)
 
     def test_no_sets(self):
-        for numbers in self.NO_SETS:
+        for numbers in NO_SETS:
             for way in (0, 5):
                 self.assertEqual(off(way, ROW, numbers, [3]), [-8], numbers)
                 self.assertEqual(off(way, ROW, [3], numbers), [-8], numbers)
@@ -150,13 +137,13 @@ class Refusals(unittest.TestCase):
         self.assertEqual(off(0, lines(UNIT, put(0, 0, 0)), [0], []), [-8])
 
     def test_those_of_every_call(self):
-        self.assertEqual(off(0, self.OVERLAPPING, [0], [1]), [-9, 1, 2])
-        self.assertEqual(off(0, self.FAULTY, [0], [1]), [-6, 3, 1])
+        self.assertEqual(off(0, OVERLAPPING, [0], [1]), [-9, 1, 2])
+        self.assertEqual(off(0, FAULTY, [0], [1]), [-6, 3, 1])
         self.assertEqual(off(0, lines("put b rb 0 0 0"), [0], [1]), [-6, 0, 3])
         self.assertEqual(off(0, lines(UNIT, UNIT), [0], [1]), [-6, 1, 4])
         self.assertEqual(off(0, lines(UNIT, *[put(number, 0, 0) for number in range(33)]), [0], [1]), [-6, 33, 2])
         self.assertEqual(off(0, ROW[:-1], [0], [1]), [-6, 4, 1])
-        self.assertEqual(off(0, self.LONG, [0], [1]), [-2])
+        self.assertEqual(off(0, LONG, [0], [1]), [-2])
         self.assertEqual(off(0, [10] * 65537, [0], [1]), [-2])
         self.assertEqual(off(0, [10] * 65536, [0], [1]), [-6, 0, 1])
 
@@ -164,9 +151,9 @@ class Refusals(unittest.TestCase):
         for way in (0, 6, LARGEST):
             for numbers, others in (([0], [1]), ([], [1]), ([0], []), ([1, 0], [2]), ([0], [0]), ([0], [LARGEST] * 99)):
                 told = (way, numbers, others)
-                self.assertEqual(off(way, self.LONG, numbers, others), [-2], told)
-                self.assertEqual(off(way, self.FAULTY, numbers, others), [-6, 3, 1], told)
-                self.assertEqual(off(way, self.OVERLAPPING, numbers, others), [-9, 1, 2], told)
+                self.assertEqual(off(way, LONG, numbers, others), [-2], told)
+                self.assertEqual(off(way, FAULTY, numbers, others), [-6, 3, 1], told)
+                self.assertEqual(off(way, OVERLAPPING, numbers, others), [-9, 1, 2], told)
                 right = [-1] if way > 5 else [0] if (numbers, others) == ([0], [1]) else [-8]
                 self.assertEqual(off(way, ROW, numbers, others), right, told)
 

@@ -8,7 +8,9 @@ import re
 import unittest
 
 from holding import puts
-from tests.helper import OPPOSITE, Frozen, lines, random_rows, random_works, subsets
+from tests.helper import (
+    BOX, DRAWER, KNOT, LARGEST, OPPOSITE, Frozen, chain, lines, put, random_rows, random_tangles, random_works, subsets,
+)
 
 TEXTS = {
     "right": lines("part a 3 3 3 x", "cut 1 1 0 1 1 3", "part b 1 1 9 z", "put a rb 5 5 5", "put b rb 6 6 2"),
@@ -17,6 +19,7 @@ TEXTS = {
     "unended": lines("part a 3 3 3 x")[:-1],
     "overlapping": lines("part a 3 3 3 x", "put a rb 0 0 0", "put a rb 2 2 2"),
     "long": [97] * 65537,
+    "locked": lines(*BOX),
 }
 
 HOLDING_WORKS = [
@@ -43,6 +46,10 @@ def all_answers(rows):
             told.append(puts.along(i, way, text, everything))
             told.append(puts.off(way, text, [i], rest))
             told.append(puts.off(way, text, rest, [i]))
+        told.append(puts.first(text, rest))
+        told.append(puts.apart(text, rest))
+    told.append(puts.first(text, everything))
+    told.append(puts.apart(text, everything))
     return told
 
 
@@ -125,15 +132,68 @@ class Promise2(unittest.TestCase):
         self.assertGreater(min(told.count(0), told.count(1)), 50)
 
 
+class Promise3(unittest.TestCase):
+    WORKS = HOLDING_WORKS + [BOX + [put(7, 7, 20), put(30, 7, 7)], DRAWER, KNOT, chain(4)]
+
+    def partings(self, text, some):
+        """Every way to part a set by one move: the way, what comes off, what is left."""
+        found = []
+        for moved_off in subsets(some)[1:-1]:
+            left = sorted(set(some) - moved_off)
+            for way in range(6):
+                if puts.off(way, text, sorted(moved_off), left) == [1]:
+                    found.append((way, sorted(moved_off), left))
+        return found
+
+    def check(self, rows, text, some):
+        """Whichever move is made first, both sets come apart just if the whole does."""
+        whole = puts.apart(text, some)
+        partings = self.partings(text, some)
+        for way, moved_off, left in partings:
+            both = puts.apart(text, moved_off) == [1] and puts.apart(text, left) == [1]
+            self.assertEqual(both, whole == [1], (rows, some, way, moved_off))
+        if whole == [1]:
+            for part in subsets(some)[1:]:
+                self.assertEqual(puts.apart(text, sorted(part)), [1], (rows, some, part))
+        self.check_first(puts.first(text, some), partings)
+        return whole[0], len(partings) > 0
+
+    def check_first(self, answer, partings):
+        """The first move is one of those that can be made, at the least way; there's one just if there are any."""
+        if not partings:
+            self.assertEqual(answer, [-3])
+            return
+        count = answer[2]
+        coming, left = answer[3:3 + count], answer[4 + count:]
+        self.assertEqual(answer, [0, answer[1], len(coming)] + coming + [len(left)] + left)
+        self.assertIn((answer[1], coming, left), partings)
+        self.assertEqual(answer[1], min(parting[0] for parting in partings))
+
+    def test_whole_works(self):
+        told = []
+        for rows in self.WORKS + random_tangles(44, 30, most_puts=5) + random_works(45, 10, most_side=3, most_puts=6):
+            told.append(self.check(rows, lines(*rows), list(range(put_count(rows)))))
+        # Apart; locked at once; locked after some moves.
+        for kind in ((1, True), (0, False), (0, True)):
+            self.assertGreater(told.count(kind), 3, kind)
+
+    def test_every_set_of_a_work(self):
+        for rows in self.WORKS[:4] + random_tangles(46, 5, most_puts=4):
+            text = lines(*rows)
+            for some in subsets(range(min(put_count(rows), 4)))[1:]:
+                self.check(rows, text, sorted(some))
+
+
 class Promise5(unittest.TestCase):
     def test_moved(self):
-        for rows in random_works(8, 40):
+        for rows in random_works(8, 40) + random_tangles(47, 15):
+            told = all_answers(rows)
             for by in ((1, 0, 0), (0, 7, 0), (0, 0, 36), (36, 36, 36), (3, 20, 11)):
-                self.assertEqual(all_answers(moved(rows, by)), all_answers(rows), (rows, by))
+                self.assertEqual(all_answers(moved(rows, by)), told, (rows, by))
 
     def test_renamed(self):
-        names = {"p0": "p1", "p1": "p0", "p2": "abcdefghijkl", "p3": "9"}
-        for rows in random_works(9, 40):
+        names = {"p0": "p1", "p1": "p0", "p2": "abcdefghijkl", "p3": "9", "p4": "put"}
+        for rows in random_works(9, 40) + random_tangles(48, 15):
             self.assertEqual(all_answers(renamed(rows, names)), all_answers(rows), rows)
 
     def test_judge_of_moved_and_renamed(self):
@@ -150,16 +210,21 @@ class Promise5(unittest.TestCase):
 
 
 class EveryCall(unittest.TestCase):
+    LISTS = ([0, 1], [0], [1, 0], [], [0, 0], [0, 1, 7], [LARGEST] * 100)
+
     def calls(self, text, make=list):
         """Each call with its arguments, the lists among them made anew."""
         yield puts.judge, (make(text),)
-        for i, way in ((0, 0), (1, 4), (0, 6), (7, 1), (4294967295, 4294967295)):
+        for i, way in ((0, 0), (1, 4), (0, 6), (7, 1), (LARGEST, LARGEST)):
             yield puts.stands, (i, way, make(text))
-            for some in ([0, 1], [0], [1, 0], [], [0, 0], [0, 1, 7], [4294967295] * 100):
+            for some in self.LISTS:
                 yield puts.along, (i, way, make(text), make(some))
         for way in (0, 4, 6):
             for some, others in (([0], [1]), ([1], [0]), ([0, 1], [1]), ([1, 0], [0]), ([0], []), ([9] * 99, [8] * 99)):
                 yield puts.off, (way, make(text), make(some), make(others))
+        for some in self.LISTS:
+            yield puts.first, (make(text), make(some))
+            yield puts.apart, (make(text), make(some))
 
     def test_nothing_handed_in_is_changed(self):
         for name, text in TEXTS.items():
@@ -219,6 +284,8 @@ class EveryCall(unittest.TestCase):
         self.assertEqual(puts.stands(i=0, way=0, text=text), [1, 1])
         self.assertEqual(puts.along(i=0, way=0, text=text, puts=[0, 1]), [2, 0, 1])
         self.assertEqual(puts.off(way=4, text=text, puts=[0], others=[1]), [1])
+        self.assertEqual(puts.first(text=text, puts=[0, 1]), [0, 4, 1, 0, 1, 1])
+        self.assertEqual(puts.apart(text=text, puts=[0, 1]), [1])
 
 
 if __name__ == "__main__":

@@ -4,14 +4,10 @@ import random
 import unittest
 
 from holding.puts import stands
-from tests.helper import OPPOSITE, TURNS, WAYS, STEPS, lines, put_set, random_works, slow_stands
-
-UNIT = "part b 1 1 1 x"
-LARGEST = 4294967295
-
-
-def put(*place):
-    return "put b rb %d %d %d" % place
+from tests.helper import (
+    FAULTY, LARGEST, LONG, OPPOSITE, OVERLAPPING, STEPS, TURNS, UNIT, WAYS, lines, put, put_set, random_works,
+    slow_stands,
+)
 
 
 def all_ways(i, *rows):
@@ -151,9 +147,6 @@ class Turns(unittest.TestCase):
 
 class Refusals(unittest.TestCase):
     RIGHT = lines(UNIT, put(0, 0, 0), put(5, 0, 0))
-    OVERLAPPING = lines(UNIT, put(0, 0, 0), put(5, 0, 0), put(5, 0, 0))
-    FAULTY = lines(UNIT, put(0, 0, 0), put(0, 0, 0), "x")
-    LONG = lines(UNIT, "x") + [120] * 65536
 
     def test_ways(self):
         self.assertEqual(stands(0, 0, self.RIGHT), [1, 1])
@@ -178,25 +171,25 @@ class Refusals(unittest.TestCase):
         self.assertEqual(stands(32, 0, text), [-4])
 
     def test_overlap(self):
-        self.assertEqual(stands(0, 0, self.OVERLAPPING), [-9, 1, 2])
+        self.assertEqual(stands(0, 0, OVERLAPPING), [-9, 1, 2])
 
     def test_faults(self):
-        self.assertEqual(stands(0, 0, self.FAULTY), [-6, 3, 1])
+        self.assertEqual(stands(0, 0, FAULTY), [-6, 3, 1])
         self.assertEqual(stands(0, 0, lines("put b rb 0 0 0")), [-6, 0, 3])
         self.assertEqual(stands(0, 0, lines(UNIT, UNIT)), [-6, 1, 4])
         self.assertEqual(stands(0, 0, lines(UNIT, *[put(number, 0, 0) for number in range(33)])), [-6, 33, 2])
         self.assertEqual(stands(0, 0, self.RIGHT[:-1]), [-6, 2, 1])
 
     def test_too_long(self):
-        self.assertEqual(stands(0, 0, self.LONG), [-2])
+        self.assertEqual(stands(0, 0, LONG), [-2])
         self.assertEqual(stands(0, 0, [10] * 65537), [-2])
         self.assertEqual(stands(0, 0, [10] * 65536), [-6, 0, 1])
 
     def test_their_order(self):
         for i, way in ((0, 6), (9, 0), (9, 6), (LARGEST, LARGEST)):
-            self.assertEqual(stands(i, way, self.LONG), [-2])
-            self.assertEqual(stands(i, way, self.FAULTY), [-6, 3, 1])
-            self.assertEqual(stands(i, way, self.OVERLAPPING), [-9, 1, 2])
+            self.assertEqual(stands(i, way, LONG), [-2])
+            self.assertEqual(stands(i, way, FAULTY), [-6, 3, 1])
+            self.assertEqual(stands(i, way, OVERLAPPING), [-9, 1, 2])
         self.assertEqual(stands(9, 6, self.RIGHT), [-1])
         self.assertEqual(stands(LARGEST, LARGEST, self.RIGHT), [-1])
         self.assertEqual(stands(LARGEST, 5, self.RIGHT), [-4])
