@@ -31,6 +31,10 @@ def tell_move(move):
     return [move.way] + tell_puts(move.coming) + tell_puts(move.left)
 
 
+def take_all_apart(work):
+    return take_apart(find_in_ways(work.cells), list(range(len(work.cells))))
+
+
 def judge(text):
     """0 alone if the text is right and no two puts overlap, else the refusal."""
     work = read_work(text)
@@ -100,3 +104,28 @@ def apart(text, puts):
         return [NO_SET]
     row = take_apart(find_in_ways(work.cells), puts)
     return [1 if all([len(together) == 1 for together in row.together]) else 0]
+
+
+def order(text):
+    """How many moves take the work apart as far as it goes, and each as `first` tells it behind its 0."""
+    work = read_work(text)
+    if work.refusal:
+        return work.refusal
+    moves = take_all_apart(work).moves
+    answer = [len(moves)]
+    for move in moves:
+        answer.extend(tell_move(move))
+    return answer
+
+
+def locked(text):
+    """How many sets are left locked in the end, and of each, in the row's order, how many puts, and they."""
+    work = read_work(text)
+    if work.refusal:
+        return work.refusal
+    # A work without puts leaves an empty set behind, which is not locked either.
+    left = [together for together in take_all_apart(work).together if len(together) > 1]
+    answer = [len(left)]
+    for together in left:
+        answer.extend(tell_puts(together))
+    return answer

@@ -122,6 +122,11 @@ KNOT = from_layers("12. 200 .12", "... ... 1..", "01. .2. ...")
 # As many puts as there may be, each as large as may be.
 BLOCKS = ["part a 16 16 16 x"]
 BLOCKS += ["put a rb %d %d %d" % (16 * (k % 4), 16 * (k // 4 % 4), 16 * (k // 16)) for k in range(32)]
+# Four rows of four boxes, each with a cell within it.
+BOXES = ["part a 3 3 3 x", "cut 1 1 1 1 1 1", UNIT]
+for number in range(16):
+    corner = (4 * (number % 4), 4 * (number // 4), 7)
+    BOXES += ["put a rb %d %d %d" % corner, put(*[low + 1 for low in corner])]
 
 
 class SetRefusals:
@@ -345,6 +350,60 @@ def slow_apart(text, numbers):
     if not slow_is_set(numbers, cells):
         return [-8]
     return [1 if slow_comes_apart(slow_in_ways(cells), numbers) else 0]
+
+
+def slow_row(in_ways, count):
+    """The moves of a work, and its row in the end, set by set as the document tells it."""
+    row, moves = [list(range(count))], []
+    while True:
+        for place, together in enumerate(row):
+            move = slow_move(in_ways, together) if len(together) > 1 else None
+            if move is not None:
+                break
+        else:
+            return moves, row
+        moves.append(move)
+        row[place:place + 1] = move[1:]
+
+
+def slow_order(text):
+    refusal, cells = slow_read(text)
+    if refusal:
+        return refusal
+    moves, row = slow_row(slow_in_ways(cells), len(cells))
+    answer = [len(moves)]
+    for way, some, rest in moves:
+        answer += [way, len(some)] + some + [len(rest)] + rest
+    return answer
+
+
+def slow_locked(text):
+    refusal, cells = slow_read(text)
+    if refusal:
+        return refusal
+    moves, row = slow_row(slow_in_ways(cells), len(cells))
+    left = [together for together in row if len(together) > 1]
+    return sum([[len(together)] + together for together in left], [len(left)])
+
+
+def moves_told(answer):
+    """The moves that an answer of order tells: of each the way, what comes along, what is left."""
+    moves, at = [], 1
+    for number in range(answer[0]):
+        way, count = answer[at:at + 2]
+        some, at = answer[at + 2:at + 2 + count], at + 2 + count
+        rest, at = answer[at + 1:at + 1 + answer[at]], at + 1 + answer[at]
+        moves.append((way, some, rest))
+    return moves
+
+
+def sets_told(answer):
+    """The sets that an answer of locked tells."""
+    sets, at = [], 1
+    for number in range(answer[0]):
+        sets.append(answer[at + 1:at + 1 + answer[at]])
+        at += 1 + answer[at]
+    return sets
 
 
 def random_cut(dice, sizes):

@@ -5,11 +5,13 @@ import copy
 import io
 import random
 import re
+import sys
 import unittest
 
 from holding import puts
 from tests.helper import (
-    BOX, DRAWER, KNOT, LARGEST, OPPOSITE, Frozen, chain, lines, put, random_rows, random_tangles, random_works, subsets,
+    BOX, BOXES, DRAWER, KNOT, LARGEST, OPPOSITE, UNIT, Frozen, chain, lines, moves_told, put, random_rows,
+    random_tangles, random_works, sets_told, subsets,
 )
 
 TEXTS = {
@@ -50,6 +52,7 @@ def all_answers(rows):
         told.append(puts.apart(text, rest))
     told.append(puts.first(text, everything))
     told.append(puts.apart(text, everything))
+    told.extend([puts.judge(text), puts.order(text), puts.locked(text)])
     return told
 
 
@@ -184,6 +187,84 @@ class Promise3(unittest.TestCase):
                 self.check(rows, text, sorted(some))
 
 
+class Promise4(unittest.TestCase):
+    WORKS = (HOLDING_WORKS + [BOX + [put(7, 7, 20), put(30, 7, 7)], DRAWER, KNOT, chain(5), BOXES]
+             + random_tangles(49, 40, most_puts=6) + random_works(50, 20, most_side=3, spread=3, most_puts=12))
+
+    def replay(self, text, count):
+        """Makes the order's moves one after another, each by the first set in the row that can; gives back the row."""
+        row = [list(range(count))]
+        for way, coming, left in moves_told(puts.order(text)):
+            together = sorted(coming + left)
+            place = row.index(together)
+            for earlier in [earlier for earlier in row[:place] if len(earlier) > 1]:
+                self.assertEqual(puts.first(text, earlier), [-3])
+            self.assertEqual(puts.off(way, text, coming, left), [1])
+            row[place:place + 1] = [coming, left]
+        return row
+
+    def test_one_after_another(self):
+        """The moves can be made, and in the end nothing is left to be moved; the locked sets are those told."""
+        for rows in self.WORKS:
+            text = lines(*rows)
+            row = self.replay(text, put_count(rows))
+            for together in row:
+                self.assertEqual(puts.first(text, together), [-3], rows)
+            self.assertEqual([together for together in row if len(together) > 1], sets_told(puts.locked(text)), rows)
+
+    def test_locked_however_one_begins(self):
+        seen = 0
+        for rows in self.WORKS:
+            text = lines(*rows)
+            for together in sets_told(puts.locked(text)):
+                seen += 1
+                self.assertEqual(puts.apart(text, together), [0], rows)
+                for some in subsets(together)[1:-1]:
+                    rest = sorted(set(together) - some)
+                    for way in range(6):
+                        self.assertEqual(puts.off(way, text, sorted(some), rest), [0], (rows, together, some))
+        self.assertGreater(seen, 30)
+
+    def test_other_moves_leave_the_same_sets(self):
+        """Whatever moves are made, as long as there are any: the same sets are left locked."""
+        dice = random.Random(57)
+        for rows in self.WORKS:
+            text = lines(*rows)
+            waiting, left = [list(range(put_count(rows)))], []
+            while waiting:
+                together = waiting.pop()
+                move = self.some_move(dice, text, together)
+                if move:
+                    waiting.extend(move)
+                else:
+                    left.append(together)
+            self.assertEqual(sorted(some for some in left if len(some) > 1), sorted(sets_told(puts.locked(text))), rows)
+
+    def some_move(self, dice, text, together):
+        """What comes along and what's left of one of the moves that single puts can make, or None."""
+        tries = [(i, way) for i in together for way in range(6)]
+        dice.shuffle(tries)
+        for i, way in tries:
+            coming = puts.along(i, way, text, together)[1:]
+            if len(coming) < len(together):
+                return [coming, [j for j in together if j not in coming]]
+        return None
+
+    def test_backwards_the_work_is_put_together(self):
+        for rows in self.WORKS:
+            text = lines(*rows)
+            sets = sets_told(puts.locked(text))
+            held = [i for together in sets for i in together]
+            sets += [[i] for i in range(put_count(rows)) if i not in held]
+            for way, coming, left in reversed(moves_told(puts.order(text))):
+                # Pushed on the opposite way to that in which it was drawn off, it meets nothing on its way back.
+                self.assertEqual(puts.off(OPPOSITE[way], text, left, coming), [1])
+                sets.remove(coming)
+                sets.remove(left)
+                sets.append(sorted(coming + left))
+            self.assertEqual(sets, [list(range(put_count(rows)))], rows)
+
+
 class Promise5(unittest.TestCase):
     def test_moved(self):
         for rows in random_works(8, 40) + random_tangles(47, 15):
@@ -225,6 +306,8 @@ class EveryCall(unittest.TestCase):
         for some in self.LISTS:
             yield puts.first, (make(text), make(some))
             yield puts.apart, (make(text), make(some))
+        yield puts.order, (make(text),)
+        yield puts.locked, (make(text),)
 
     def test_nothing_handed_in_is_changed(self):
         for name, text in TEXTS.items():
@@ -278,6 +361,22 @@ class EveryCall(unittest.TestCase):
                     call(*handed)
         self.assertEqual(out.getvalue() + err.getvalue(), "")
 
+    def test_few_calls_within_one_another(self):
+        """Long texts, and works of many moves, nest no deeper than others."""
+        many = ([UNIT] + [put(number, 0, 0) for number in range(32)], chain(17), BOXES)
+        texts = list(TEXTS.values()) + [lines(*rows) for rows in many] + [[10] * 65536]
+        deep, frame = 0, sys._getframe()
+        while frame:
+            deep, frame = deep + 1, frame.f_back
+        before = sys.getrecursionlimit()
+        sys.setrecursionlimit(deep + 40)
+        try:
+            for text in texts:
+                for call, handed in self.calls(text):
+                    call(*handed)
+        finally:
+            sys.setrecursionlimit(before)
+
     def test_arguments_by_name(self):
         text = TEXTS["right"]
         self.assertEqual(puts.judge(text=text), [0])
@@ -286,6 +385,8 @@ class EveryCall(unittest.TestCase):
         self.assertEqual(puts.off(way=4, text=text, puts=[0], others=[1]), [1])
         self.assertEqual(puts.first(text=text, puts=[0, 1]), [0, 4, 1, 0, 1, 1])
         self.assertEqual(puts.apart(text=text, puts=[0, 1]), [1])
+        self.assertEqual(puts.order(text=text), [1, 4, 1, 0, 1, 1])
+        self.assertEqual(puts.locked(text=text), [0])
 
 
 if __name__ == "__main__":
